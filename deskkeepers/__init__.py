@@ -1,0 +1,1 @@
+"""Deskkeepers: pools whose servers take over desks."""

@@ -1,0 +1,95 @@
+"""The examples of DOC.md, as they stand there."""
+
+import unittest
+
+from deskkeepers.errors import DeskError
+
+EXAMPLES = {
+    '20': """\
+>>> from deskkeepers.errors import TooMany
+>>> TooMany(7).limit
+7
+""",
+    '21': """\
+>>> from deskkeepers.kinds import are_names
+>>> [are_names([]), are_names(['ab', 'a']), are_names(['a', 'a'])]
+[True, True, False]
+""",
+    '22 queries': """\
+>>> from deskkeepers.rosters import Roster
+>>> roster = Roster(['bob', 'ann', 'cid'], [('bc', ['bob', 'cid']), ('ab', ['bob', 'ann']), ('c', ['cid'])])
+>>> [roster.desks(), roster.crew('ab'), roster.desks_of('cid'), roster.cut(['ann']).desks(), len(roster)]
+[['ab', 'bc', 'c'], ['ann', 'bob'], ['bc', 'c'], ['ab'], 3]
+""",
+    '22 error': """\
+>>> from deskkeepers.rosters import Roster
+>>> Roster(['ann', 'bob'], [('ab', ['ann', 'bob']), ('a', [])])
+raises BadDesk(1)
+""",
+    '31': """\
+>>> from deskkeepers.rosters import Roster
+>>> from deskkeepers.lines import keepers
+>>> R = Roster(['ann', 'bob', 'cid'], [('ab', ['ann', 'bob']), ('bc', ['bob', 'cid']), ('c', ['cid'])])
+>>> keepers(R, ['ann', 'bob', 'cid'])
+[('ab', 'ann'), ('bc', 'bob'), ('c', 'cid')]
+""",
+    '32': """\
+>>> from deskkeepers.rosters import Roster
+>>> from deskkeepers.lines import serve
+>>> R = Roster(['ann', 'bob', 'cid'], [('ab', ['ann', 'bob']), ('bc', ['bob', 'cid']), ('c', ['cid'])])
+>>> serve(R, ['ann', 'bob', 'cid'], 'bc')
+('bob', ['bob', 'ann', 'cid'])
+""",
+    '33': """\
+>>> from deskkeepers.rosters import Roster
+>>> from deskkeepers.lines import follow
+>>> R = Roster(['ann', 'bob', 'cid'], [('ab', ['ann', 'bob']), ('bc', ['bob', 'cid']), ('c', ['cid'])])
+>>> follow(R, ['ann', 'bob', 'cid'], ['bc', 'c', 'ab'])
+(['bob', 'cid', 'bob'], ['bob', 'cid', 'ann'])
+""",
+    '35': """\
+>>> from deskkeepers.rosters import Roster
+>>> from deskkeepers.lines import masters, taken
+>>> R = Roster(['ann', 'bob', 'cid'], [('ab', ['ann', 'bob']), ('bc', ['bob', 'cid']), ('c', ['cid'])])
+>>> [masters(R, ['ann', 'bob', 'cid']), taken(R, [('ab', 'ann'), ('bc', 'bob'), ('c', 'cid')], 'bc')]
+[['ann'], ('bob', [('ab', 'bob'), ('bc', 'bob'), ('c', 'cid')])]
+""",
+}
+
+
+def shown(command, names):
+    """What the document shows below a command: its value, or the error that it raises."""
+    try:
+        return repr(eval(command, names))
+    except DeskError as error:
+        fields = ', '.join(repr(value) for value in vars(error).values())
+        return 'raises ' + type(error).__name__ + '(' + fields + ')'
+
+
+def run(text):
+    """Run an example; return the pairs of what was shown and what should be."""
+    names = {}
+    pairs = []
+    rows = text.splitlines()
+    for row, after in zip(rows, rows[1:] + ['>>> ']):
+        if not row.startswith('>>> '):
+            continue
+        if after.startswith('>>> '):
+            exec(row[4:], names)
+        else:
+            pairs.append((shown(row[4:], names), after))
+    return pairs
+
+
+class TestExamples(unittest.TestCase):
+    def test_examples(self):
+        for point, text in EXAMPLES.items():
+            with self.subTest(point):
+                pairs = run(text)
+                self.assertNotEqual(pairs, [])
+                for found, wanted in pairs:
+                    self.assertEqual(found, wanted)
+
+
+if __name__ == '__main__':
+    unittest.main()

@@ -1,0 +1,38 @@
+"""Tests of the section "The interface": what exists, where it is defined, and with which arguments."""
+
+import importlib
+import inspect
+import unittest
+
+FUNCTIONS = {
+    'kinds': {'is_integer': '(thing)', 'is_name': '(thing)', 'are_names': '(thing)'},
+    'lines': {'is_line': '(roster, thing)', 'keepers': '(roster, line)', 'serve': '(roster, line, desk)',
+              'follow': '(roster, line, calls)', 'masters': '(roster, line)', 'taken': '(roster, keepers, desk)'},
+}
+METHODS = {
+    ('rosters', 'Roster'): {'__init__': '(self, workers, desks)', '__eq__': '(self, other)', '__len__': '(self)',
+                            'workers': '(self)', 'desks': '(self)', 'crew': '(self, desk)',
+                            'desks_of': '(self, worker)', 'cut': '(self, workers)', 'beside': '(self, other)'},
+}
+
+
+class TestInterface(unittest.TestCase):
+    def test_functions(self):
+        for name, functions in FUNCTIONS.items():
+            module = importlib.import_module('deskkeepers.' + name)
+            for function, signature in functions.items():
+                found = vars(module)[function]
+                self.assertEqual(found.__module__, module.__name__)
+                self.assertEqual(str(inspect.signature(found)), signature)
+
+    def test_methods_stand_in_the_class_itself(self):
+        for (name, owner), methods in METHODS.items():
+            module = importlib.import_module('deskkeepers.' + name)
+            found = vars(module)[owner]
+            self.assertEqual(found.__module__, module.__name__)
+            for method, signature in methods.items():
+                self.assertEqual(str(inspect.signature(vars(found)[method])), signature)
+
+
+if __name__ == '__main__':
+    unittest.main()

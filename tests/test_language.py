@@ -1,0 +1,79 @@
+"""Tests of those rules of LANGUAGE.md that a look at the syntax can decide.
+
+The lists below hold what the package uses so far, not all that the rules allow: what is new in
+the package is looked up in LANGUAGE.md first, and added here then.
+"""
+
+import ast
+import builtins
+import re
+import unittest
+from pathlib import Path
+
+PACKAGE = Path(__file__).resolve().parent.parent / 'deskkeepers'
+NODES = {'Module', 'Expr', 'Constant', 'ImportFrom', 'alias', 'ClassDef', 'FunctionDef', 'arguments', 'arg', 'Return',
+         'Assign', 'AugAssign', 'For', 'While', 'If', 'Raise', 'BoolOp', 'And', 'Or', 'UnaryOp', 'Not', 'BinOp', 'Add',
+         'Compare', 'Eq', 'NotEq', 'Gt', 'LtE', 'In', 'NotIn', 'Is', 'IsNot', 'Call', 'IfExp', 'Attribute', 'Subscript',
+         'Name', 'List', 'Tuple', 'ListComp', 'DictComp', 'comprehension', 'Load', 'Store'}
+BUILTINS = {'ValueError', 'all', 'bool', 'dict', 'enumerate', 'int', 'isinstance', 'len', 'list', 'set', 'sorted', 'str',
+            'tuple'}
+BARRED = {'register', 'mro', 'elements', 'open', 'input', 'law', 'version_info', 'with_traceback', 'add_note'}
+
+
+def files():
+    """The files of the package with their texts."""
+    return [(path, path.read_text()) for path in sorted(PACKAGE.rglob('*.py'))]
+
+
+def names_of(node):
+    """The names that a node of the syntax gives or uses."""
+    return [getattr(node, field) for field in ('id', 'name', 'attr', 'arg') if isinstance(getattr(node, field, None), str)]
+
+
+class TestLanguage(unittest.TestCase):
+    def test_files(self):
+        self.assertTrue(files())
+        others = [path for path in PACKAGE.iterdir() if path.suffix != '.py' and path.name != '__pycache__']
+        self.assertEqual(others, [])
+        for path, text in files():
+            self.assertRegex(path.stem, '^[a-z][a-z0-9_]*$|^__init__$')
+            self.assertLessEqual(len(text.splitlines()), 399, path)
+            self.assertTrue(all(sign == '\n' or ' ' <= sign <= '~' for sign in text), path)
+            self.assertNotIn('%', text)
+            for line in text.splitlines():
+                self.assertLessEqual(len(line), 120, path)
+
+    def test_syntax(self):
+        for path, text in files():
+            for node in ast.walk(ast.parse(text)):
+                self.assertIn(type(node).__name__, NODES, path)
+                if isinstance(node, ast.FunctionDef):
+                    self.assertLessEqual(node.end_lineno - node.lineno + 1, 40, node.name)
+                    self.assertEqual(node.decorator_list, [])
+                if isinstance(node, ast.Constant):
+                    self.assertIn(type(node.value), (int, str, bool, type(None)), path)
+
+    def test_imports(self):
+        for path, text in files():
+            for node in ast.walk(ast.parse(text)):
+                if isinstance(node, ast.ImportFrom):
+                    self.assertRegex(node.module, '^deskkeepers[.][a-z]+$')
+                    self.assertEqual([alias.asname for alias in node.names], [None] * len(node.names))
+                    source = (PACKAGE / (node.module.split('.')[1] + '.py')).read_text()
+                    for alias in node.names:
+                        self.assertRegex(source, re.compile('^((def|class) )?' + alias.name + r'\b', re.MULTILINE))
+
+    def test_names(self):
+        given = set(dir(builtins))
+        for path, text in files():
+            for node in ast.walk(ast.parse(text)):
+                if isinstance(node, ast.Name) and node.id in given:
+                    self.assertIsInstance(node.ctx, ast.Load, path)
+                    self.assertIn(node.id, BUILTINS, path)
+                if isinstance(node, (ast.arg, ast.FunctionDef, ast.ClassDef)):
+                    self.assertTrue(given.isdisjoint(names_of(node)), path)
+                self.assertTrue(BARRED.isdisjoint(names_of(node)), path)
+
+
+if __name__ == '__main__':
+    unittest.main()
