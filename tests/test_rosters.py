@@ -15,7 +15,7 @@ def desks_of_one(many, worker='waa', letter='d'):
 
 class RosterCase(unittest.TestCase):
     def raises(self, error, value, function, *arguments):
-        """The function raises this very error with this very field, and changes no argument."""
+        """The function raises this very error with this field."""
         with self.assertRaises(DeskError) as held:
             function(*arguments)
         self.assertIs(type(held.exception), error)
@@ -91,6 +91,16 @@ class TestMaking(RosterCase):
     def test_a_sixty_first_bad_item_is_a_wrong_argument(self):
         self.raises(Wrong, 1, Roster, ['waa'], desks_of_one(60) + [None])
         self.raises(BadDesk, 59, Roster, ['waa'], desks_of_one(59) + [None])
+
+
+    def test_arguments_stay_as_they_were(self):
+        workers = ['c', 'a', 'b']
+        for desks in ([('y', ['c', 'b']), ('x', ['b', 'a'])], [('y', ['c', 'b']), ('x', [])], [('x', ['c', 'b'])] * 61):
+            with Unchanged(self, workers, desks):
+                try:
+                    Roster(workers, desks)
+                except DeskError:
+                    pass
 
 
 class TestQueries(RosterCase):
