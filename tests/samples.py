@@ -2,6 +2,7 @@
 
 from copy import deepcopy
 from itertools import combinations, permutations
+from random import Random
 
 from deskkeepers.rosters import Roster
 
@@ -38,6 +39,26 @@ def names(many, letter='w'):
     """As many different names, in ascending order."""
     alphabet = 'abcdefghijklmnopqrstuvwxyz'
     return [letter + alphabet[at // 26] + alphabet[at % 26] for at in range(many)]
+
+
+def wide():
+    """Forty workers and sixty desks with overlapping crews."""
+    workers = names(40)
+    desks = [(name, [workers[(at * 7 + step * step) % 40] for step in range(at % 3 + 1)])
+             for at, name in enumerate(names(60, 'd'))]
+    return Roster(workers, desks)
+
+
+def mixed_rosters(many, workers, desks, seed=1):
+    """As many rosters with the same numbers of workers and desks; the seed decides about the crews."""
+    chance = Random(seed)
+    rosters = []
+    for _ in range(many):
+        team = names(workers, 'v')
+        chance.shuffle(team)
+        crews = [chance.sample(team, chance.randint(1, min(3, workers))) for _ in range(desks)]
+        rosters.append(Roster(team, list(zip(names(desks, 'd'), crews))))
+    return rosters
 
 
 def content(roster):

@@ -54,6 +54,63 @@ raises BadDesk(1)
 >>> [masters(R, ['ann', 'bob', 'cid']), taken(R, [('ab', 'ann'), ('bc', 'bob'), ('c', 'cid')], 'bc')]
 [['ann'], ('bob', [('ab', 'bob'), ('bc', 'bob'), ('c', 'cid')])]
 """,
+    '36': """\
+>>> from deskkeepers.rosters import Roster
+>>> from deskkeepers.orders import arrange, is_cycle
+>>> R = Roster(['ann', 'bob', 'cid'], [('ab', ['ann', 'bob']), ('bc', ['bob', 'cid']), ('c', ['cid'])])
+>>> two = Roster(['ann', 'bob'], [('x', ['ann', 'bob']), ('y', ['ann', 'bob'])])
+>>> [arrange(R, [('ab', 'bob'), ('bc', 'cid')]), is_cycle(two, [('x', 'ann'), ('y', 'bob')], ['bob', 'ann'])]
+[('line', ['cid', 'bob', 'ann']), True]
+""",
+    '37': """\
+>>> from deskkeepers.rosters import Roster
+>>> from deskkeepers.orders import arrangements
+>>> arrangements(Roster(['ann', 'bob', 'cid'], [('ab', ['ann', 'bob']), ('bc', ['bob', 'cid']), ('c', ['cid'])]))
+4
+""",
+    '41': """\
+>>> from deskkeepers.rosters import Roster
+>>> from deskkeepers.covers import is_cover, is_lean, own_desks
+>>> R = Roster(['ann', 'bob', 'cid'], [('ab', ['ann', 'bob']), ('bc', ['bob', 'cid']), ('c', ['cid'])])
+>>> [is_cover(R, ['cid', 'bob', 'ann']), is_lean(R, ['cid', 'bob', 'ann']), own_desks(R, ['ann', 'cid'], 'cid')]
+[True, False, ['bc', 'c']]
+""",
+    '42': """\
+>>> from deskkeepers.rosters import Roster
+>>> from deskkeepers.covers import lean_covers
+>>> R = Roster(['ann', 'bob', 'cid'], [('ab', ['ann', 'bob']), ('bc', ['bob', 'cid']), ('c', ['cid'])])
+>>> lean_covers(R, ['ann', 'bob', 'cid'])
+[['ann', 'cid'], ['bob', 'cid']]
+""",
+    '44': """\
+>>> from deskkeepers.rosters import Roster
+>>> from deskkeepers.settling import ends, settle
+>>> R = Roster(['ann', 'bob', 'cid'], [('ab', ['ann', 'bob']), ('bc', ['bob', 'cid']), ('c', ['cid'])])
+>>> [ends(R, ['ann', 'bob', 'cid']), settle(R, ['ann', 'bob', 'cid'], ['ann', 'cid'])]
+[[['ann', 'cid'], ['bob', 'cid']], ['c']]
+""",
+    '45': """\
+>>> from deskkeepers.rosters import Roster
+>>> from deskkeepers.settling import lose
+>>> R = Roster(['ann', 'bob', 'cid'], [('ab', ['ann', 'bob']), ('bc', ['bob', 'cid']), ('c', ['cid'])])
+>>> [lose(R, ['ann', 'bob', 'cid'], 'bob'), lose(R, ['ann', 'bob', 'cid'], 'cid')]
+[('calls', ['c']), ('safe', 'c')]
+""",
+    '50': """\
+>>> from deskkeepers.rosters import Roster
+>>> from deskkeepers.reaching import is_must_call
+>>> R = Roster(['ann', 'bob', 'cid'], [('ab', ['ann', 'bob']), ('bc', ['bob', 'cid']), ('c', ['cid'])])
+>>> wishes = [('ab', 'ann'), ('bc', 'cid')]
+>>> [is_must_call(R, ['ann', 'bob', 'cid'], wishes, [('cid', 'bc', None)]), is_must_call(R, ['ann', 'bob', 'cid'], wishes, [])]
+[True, False]
+""",
+    '51': """\
+>>> from deskkeepers.rosters import Roster
+>>> from deskkeepers.reaching import reach
+>>> desks = [('x', ['x']), ('xy', ['x', 'y']), ('y', ['y']), ('yz', ['y', 'z']), ('z', ['z']), ('zx', ['x', 'z'])]
+>>> reach(Roster(['x', 'y', 'z'], desks), ['x', 'y', 'z'], [('xy', 'y'), ('yz', 'z')])
+('calls', ['y', 'z'])
+""",
 }
 
 

@@ -8,6 +8,13 @@ FUNCTIONS = {
     'kinds': {'is_integer': '(thing)', 'is_name': '(thing)', 'are_names': '(thing)'},
     'lines': {'is_line': '(roster, thing)', 'keepers': '(roster, line)', 'serve': '(roster, line, desk)',
               'follow': '(roster, line, calls)', 'masters': '(roster, line)', 'taken': '(roster, keepers, desk)'},
+    'orders': {'arrange': '(roster, wishes)', 'is_cycle': '(roster, wishes, thing)', 'arrangements': '(roster)'},
+    'covers': {'live': '(roster, line)', 'is_cover': '(roster, workers)', 'is_lean': '(roster, workers)',
+               'own_desks': '(roster, workers, worker)', 'lean_covers': '(roster, workers)'},
+    'settling': {'ends': '(roster, line)', 'is_settled': '(roster, line)', 'settle': '(roster, line, cover)',
+                 'lose': '(roster, line, worker)'},
+    'reaching': {'must_call': '(roster, line, wishes)', 'is_must_call': '(roster, line, wishes, thing)',
+                 'reach': '(roster, line, wishes)'},
 }
 METHODS = {
     ('rosters', 'Roster'): {'__init__': '(self, workers, desks)', '__eq__': '(self, other)', '__len__': '(self)',

@@ -13,10 +13,12 @@ from pathlib import Path
 PACKAGE = Path(__file__).resolve().parent.parent / 'deskkeepers'
 NODES = {'Module', 'Expr', 'Constant', 'ImportFrom', 'alias', 'ClassDef', 'FunctionDef', 'arguments', 'arg', 'Return',
          'Assign', 'AugAssign', 'For', 'While', 'If', 'Raise', 'BoolOp', 'And', 'Or', 'UnaryOp', 'Not', 'BinOp', 'Add',
-         'Compare', 'Eq', 'NotEq', 'Gt', 'LtE', 'In', 'NotIn', 'Is', 'IsNot', 'Call', 'IfExp', 'Attribute', 'Subscript',
-         'Name', 'List', 'Tuple', 'ListComp', 'DictComp', 'comprehension', 'Load', 'Store'}
-BUILTINS = {'ValueError', 'all', 'bool', 'dict', 'enumerate', 'int', 'isinstance', 'len', 'list', 'set', 'sorted', 'str',
-            'tuple'}
+         'Sub', 'Mult', 'BitAnd', 'BitOr', 'LShift', 'RShift', 'USub', 'Compare', 'Eq', 'NotEq', 'Gt', 'Lt', 'LtE', 'In',
+         'NotIn', 'Is', 'IsNot', 'Call', 'IfExp', 'Attribute', 'Subscript', 'Slice', 'Name', 'List', 'Tuple', 'ListComp',
+         'DictComp', 'SetComp', 'comprehension', 'Load', 'Store'}
+BUILTINS = {'ValueError', 'all', 'bool', 'dict', 'enumerate', 'int', 'isinstance', 'len', 'list', 'range', 'reversed',
+            'set', 'sorted', 'str', 'sum', 'tuple', 'zip'}
+LIBRARY = {('itertools', 'combinations')}
 BARRED = {'register', 'mro', 'elements', 'open', 'input', 'law', 'version_info', 'with_traceback', 'add_note'}
 
 
@@ -57,8 +59,10 @@ class TestLanguage(unittest.TestCase):
         for path, text in files():
             for node in ast.walk(ast.parse(text)):
                 if isinstance(node, ast.ImportFrom):
-                    self.assertRegex(node.module, '^deskkeepers[.][a-z]+$')
                     self.assertEqual([alias.asname for alias in node.names], [None] * len(node.names))
+                    if {(node.module, alias.name) for alias in node.names} <= LIBRARY:
+                        continue
+                    self.assertRegex(node.module, '^deskkeepers[.][a-z]+$')
                     source = (PACKAGE / (node.module.split('.')[1] + '.py')).read_text()
                     for alias in node.names:
                         self.assertRegex(source, re.compile('^((def|class) )?' + alias.name + r'\b', re.MULTILINE))
@@ -73,6 +77,25 @@ class TestLanguage(unittest.TestCase):
                 if isinstance(node, (ast.arg, ast.FunctionDef, ast.ClassDef)):
                     self.assertTrue(given.isdisjoint(names_of(node)), path)
                 self.assertTrue(BARRED.isdisjoint(names_of(node)), path)
+
+    def test_no_variable_has_the_name_of_a_class_or_an_import_of_its_file(self):
+        for path, text in files():
+            nodes = list(ast.walk(ast.parse(text)))
+            taken = {node.name for node in nodes if isinstance(node, (ast.alias, ast.ClassDef))}
+            for node in nodes:
+                if isinstance(node, ast.arg) or isinstance(node, ast.Name) and isinstance(node.ctx, ast.Store):
+                    self.assertTrue(taken.isdisjoint(names_of(node)), path)
+
+    def test_no_two_files_import_from_each_other(self):
+        sources = {}
+        for path, text in files():
+            nodes = [node for node in ast.walk(ast.parse(text)) if isinstance(node, ast.ImportFrom)]
+            sources[path.stem] = {node.module.split('.')[-1] for node in nodes}
+        while sources:
+            free = [name for name in sources if sources.keys().isdisjoint(sources[name])]
+            self.assertTrue(free, sources)
+            for name in free:
+                del sources[name]
 
 
 if __name__ == '__main__':

@@ -6,34 +6,8 @@ from itertools import product
 from deskkeepers.errors import DeskError, NoDesk
 from deskkeepers.lines import follow, is_line, keepers, masters, serve, taken
 from deskkeepers.rosters import Roster
-from samples import Odd, Unchanged, content, first, lines_of, names, odd_values, ring, small_rosters
-
-
-def plain_keeper(roster, line, desk):
-    """The keeper by its definition: the crew member with the least index."""
-    return min(roster.crew(desk), key=line.index)
-
-
-def plain_serve(roster, line, desk):
-    """A call by its definition: the server is taken out and put to the front."""
-    server = plain_keeper(roster, line, desk)
-    rest = list(line)
-    rest.remove(server)
-    return server, [server, *rest]
-
-
-def keepers_lists(roster):
-    """All keepers lists of a roster, also those that no line has."""
-    choices = [[(desk, worker) for worker in roster.crew(desk)] for desk in roster.desks()]
-    return [list(choice) for choice in product(*choices)]
-
-
-def wide():
-    """Forty workers and sixty desks with overlapping crews."""
-    workers = names(40)
-    desks = [(name, [workers[(at * 7 + step * step) % 40] for step in range(at % 3 + 1)])
-             for at, name in enumerate(names(60, 'd'))]
-    return Roster(workers, desks)
+from plain import keepers_lists, plain_keeper, plain_serve
+from samples import Odd, Unchanged, content, first, lines_of, names, odd_values, ring, small_rosters, wide
 
 
 class LinesCase(unittest.TestCase):
