@@ -49,6 +49,17 @@ def wide():
     return Roster(workers, desks)
 
 
+def paired(many):
+    """Pairs of workers, each with an own desk and both with a shared one, and a desk zz where zb is never live.
+
+    The line of all workers in ascending order has za ahead of zb, and each v ahead of its w.
+    """
+    ones, others = names(many, 'v'), names(many)
+    own = [('o' + name, [name]) for name in ones + others]
+    shared = [('s' + other, [one, other]) for one, other in zip(ones, others)]
+    return Roster([*ones, *others, 'za', 'zb'], [*own, *shared, ('zz', ['za', 'zb'])])
+
+
 def mixed_rosters(many, workers, desks, seed=1):
     """As many rosters with the same numbers of workers and desks; the seed decides about the crews."""
     chance = Random(seed)

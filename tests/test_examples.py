@@ -1,6 +1,7 @@
-"""The examples of DOC.md, as they stand there."""
+"""The examples of DOC.md, as they stand there, and that of README.md."""
 
 import unittest
+from pathlib import Path
 
 from deskkeepers.errors import DeskError
 
@@ -111,6 +112,42 @@ raises BadDesk(1)
 >>> reach(Roster(['x', 'y', 'z'], desks), ['x', 'y', 'z'], [('xy', 'y'), ('yz', 'z')])
 ('calls', ['y', 'z'])
 """,
+    '52': """\
+>>> from deskkeepers.rosters import Roster
+>>> from deskkeepers.search import find
+>>> R = Roster(['ann', 'bob', 'cid'], [('ab', ['ann', 'bob']), ('bc', ['bob', 'cid']), ('c', ['cid'])])
+>>> [find(R, ['ann', 'bob', 'cid'], [('ab', 'bob')]), find(R, ['cid', 'ann', 'bob'], [('ab', 'bob')])]
+[('calls', ['bc']), ('never', [[('ab', 'ann'), ('bc', 'cid'), ('c', 'cid')]])]
+""",
+    '55': """\
+>>> from deskkeepers.rosters import Roster
+>>> from deskkeepers.costs import cheapest
+>>> R = Roster(['ann', 'bob', 'cid'], [('ab', ['ann', 'bob']), ('bc', ['bob', 'cid']), ('c', ['cid'])])
+>>> cheapest(R, ['ann', 'bob', 'cid'], [('bc', 'cid')], [('ab', 1), ('bc', 5), ('c', 2)])
+('calls', 2, ['c'])
+""",
+    '60': """\
+>>> from deskkeepers.rosters import Roster
+>>> from deskkeepers.logs import first_bad
+>>> R = Roster(['ann', 'bob', 'cid'], [('ab', ['ann', 'bob']), ('bc', ['bob', 'cid']), ('c', ['cid'])])
+>>> first_bad(R, [('ab', 'ann'), ('bc', 'cid'), ('ab', 'bob')])
+2
+""",
+    '62': """\
+>>> from deskkeepers.rosters import Roster
+>>> from deskkeepers.logs import facts, servers
+>>> R = Roster(['ann', 'bob', 'cid'], [('ab', ['ann', 'bob']), ('bc', ['bob', 'cid']), ('c', ['cid'])])
+>>> [facts(R, [('ab', 'ann'), ('bc', 'cid')]), servers(R, [('c', 'cid')], 'ab'), servers(R, [('bc', 'bob')], 'ab')]
+[[('ann', 'bob'), ('cid', 'bob')], ['ann', 'bob'], ['bob']]
+""",
+    '63': """\
+>>> from deskkeepers.rosters import Roster
+>>> from deskkeepers.counting import line_many, line_number, line_of
+>>> R = Roster(['ann', 'bob', 'cid'], [('ab', ['ann', 'bob']), ('bc', ['bob', 'cid']), ('c', ['cid'])])
+>>> log = [('ab', 'ann'), ('bc', 'cid')]
+>>> [line_many(R, log), line_of(R, log, 1), line_number(R, log, ['ann', 'bob', 'cid'])]
+[2, ['cid', 'ann', 'bob'], None]
+""",
 }
 
 
@@ -146,6 +183,13 @@ class TestExamples(unittest.TestCase):
                 self.assertNotEqual(pairs, [])
                 for found, wanted in pairs:
                     self.assertEqual(found, wanted)
+
+    def test_the_example_of_the_readme(self):
+        text = (Path(__file__).resolve().parent.parent / 'README.md').read_text().split('```')[1]
+        pairs = run(text.strip())
+        self.assertEqual(len(pairs), 4)
+        for found, wanted in pairs:
+            self.assertEqual(found, wanted)
 
 
 if __name__ == '__main__':

@@ -15,6 +15,12 @@ FUNCTIONS = {
                  'lose': '(roster, line, worker)'},
     'reaching': {'must_call': '(roster, line, wishes)', 'is_must_call': '(roster, line, wishes, thing)',
                  'reach': '(roster, line, wishes)'},
+    'search': {'find': '(roster, line, wishes, *, limit=400)', 'is_never': '(roster, line, wishes, thing)'},
+    'costs': {'price_table': '(roster, line, wishes, prices, *, limit=400)',
+              'is_price_table': '(roster, line, wishes, prices, thing)',
+              'cheapest': '(roster, line, wishes, prices, *, limit=400)'},
+    'logs': {'first_bad': '(roster, log)', 'facts': '(roster, log)', 'servers': '(roster, log, desk)'},
+    'counting': {'line_many': '(roster, log)', 'line_of': '(roster, log, number)', 'line_number': '(roster, log, line)'},
 }
 METHODS = {
     ('rosters', 'Roster'): {'__init__': '(self, workers, desks)', '__eq__': '(self, other)', '__len__': '(self)',

@@ -12,13 +12,13 @@ from pathlib import Path
 
 PACKAGE = Path(__file__).resolve().parent.parent / 'deskkeepers'
 NODES = {'Module', 'Expr', 'Constant', 'ImportFrom', 'alias', 'ClassDef', 'FunctionDef', 'arguments', 'arg', 'Return',
-         'Assign', 'AugAssign', 'For', 'While', 'If', 'Raise', 'BoolOp', 'And', 'Or', 'UnaryOp', 'Not', 'BinOp', 'Add',
-         'Sub', 'Mult', 'BitAnd', 'BitOr', 'LShift', 'RShift', 'USub', 'Compare', 'Eq', 'NotEq', 'Gt', 'Lt', 'LtE', 'In',
-         'NotIn', 'Is', 'IsNot', 'Call', 'IfExp', 'Attribute', 'Subscript', 'Slice', 'Name', 'List', 'Tuple', 'ListComp',
-         'DictComp', 'SetComp', 'comprehension', 'Load', 'Store'}
-BUILTINS = {'ValueError', 'all', 'bool', 'dict', 'enumerate', 'int', 'isinstance', 'len', 'list', 'range', 'reversed',
-            'set', 'sorted', 'str', 'sum', 'tuple', 'zip'}
-LIBRARY = {('itertools', 'combinations')}
+         'Assign', 'AugAssign', 'For', 'While', 'If', 'Raise', 'Break', 'Continue', 'BoolOp', 'And', 'Or', 'UnaryOp', 'Not',
+         'USub', 'BinOp', 'Add', 'Sub', 'Mult', 'BitAnd', 'BitOr', 'LShift', 'RShift', 'Compare', 'Eq', 'NotEq', 'Gt',
+         'GtE', 'Lt', 'LtE', 'In', 'NotIn', 'Is', 'IsNot', 'Call', 'keyword', 'IfExp', 'Attribute', 'Subscript', 'Slice',
+         'Name', 'List', 'Tuple', 'Dict', 'ListComp', 'DictComp', 'SetComp', 'comprehension', 'Load', 'Store'}
+BUILTINS = {'ValueError', 'all', 'bool', 'dict', 'enumerate', 'int', 'isinstance', 'len', 'list', 'min', 'range',
+            'reversed', 'set', 'sorted', 'str', 'sum', 'tuple', 'zip'}
+LIBRARY = {('heapq', 'heappop'), ('heapq', 'heappush'), ('itertools', 'combinations')}
 BARRED = {'register', 'mro', 'elements', 'open', 'input', 'law', 'version_info', 'with_traceback', 'add_note'}
 
 
