@@ -85,6 +85,20 @@ def fewest_calls(roster, line, wanted):
     return min(found, default=None)
 
 
+def entries(roster):
+    """All tuples that a log of the roster may contain."""
+    return [(desk, worker) for desk in roster.desks() for worker in roster.crew(desk)]
+
+
+def lines_after(roster, log):
+    """Pairs of each line from which the log is possible, and the line after it."""
+    pairs = [(line, line) for line in lines_of(roster)]
+    for desk, worker in log:
+        called = [(start, *plain_serve(roster, now, desk)) for start, now in pairs]
+        pairs = [(start, after) for start, server, after in called if server == worker]
+    return pairs
+
+
 def is_plain_cover(roster, workers):
     """Whether the workers contain one of each crew."""
     return all(set(roster.crew(desk)) & set(workers) for desk in roster.desks())

@@ -9,9 +9,8 @@ from deskkeepers.errors import NoNumber, NotPossible, TooMany
 from deskkeepers.lines import follow
 from deskkeepers.logs import first_bad
 from deskkeepers.rosters import Roster
-from plain import Case
+from plain import Case, entries, lines_after
 from samples import first, lines_of, mixed_rosters, names, ring, small_rosters
-from test_logs import entries, lines_after
 
 
 def some_logs():

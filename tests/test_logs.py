@@ -7,17 +7,8 @@ from deskkeepers.errors import NotPossible
 from deskkeepers.lines import follow
 from deskkeepers.logs import facts, first_bad, servers
 from deskkeepers.rosters import Roster
-from plain import Case, plain_serve
+from plain import Case, entries, lines_after, plain_serve
 from samples import first, lines_of, mixed_rosters, names, ring, small_rosters, wide
-
-
-def lines_after(roster, log):
-    """Pairs of each line from which the log is possible, and the line after it."""
-    pairs = [(line, line) for line in lines_of(roster)]
-    for desk, worker in log:
-        called = [(start, *plain_serve(roster, now, desk)) for start, now in pairs]
-        pairs = [(start, after) for start, server, after in called if server == worker]
-    return pairs
 
 
 def plain_first_bad(roster, log):
@@ -36,11 +27,6 @@ def plain_facts(roster, log):
         if not crew & {server for _, server in log[:at]}:
             found |= {(worker, other) for other in crew - {worker}}
     return sorted(found)
-
-
-def entries(roster):
-    """All tuples that a log of the roster may contain."""
-    return [(desk, worker) for desk in roster.desks() for worker in roster.crew(desk)]
 
 
 def some_logs():
