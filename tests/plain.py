@@ -79,12 +79,6 @@ def distances(roster, line):
     return found
 
 
-def fewest_calls(roster, line, wanted):
-    """The fewest calls that lead to a line that is wanted, or None."""
-    found = [many for after, many in distances(roster, line).items() if wanted(list(after))]
-    return min(found, default=None)
-
-
 def entries(roster):
     """All tuples that a log of the roster may contain."""
     return [(desk, worker) for desk in roster.desks() for worker in roster.crew(desk)]
