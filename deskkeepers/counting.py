@@ -1,5 +1,7 @@
 """Counting: how many lines a log leaves, and their numbers in ascending order."""
 
+from math import factorial
+
 from deskkeepers.errors import NoNumber, TooMany
 from deskkeepers.logs import facts
 from deskkeepers.masks import mask_of
@@ -30,9 +32,45 @@ def _ways(ahead):
     return ways
 
 
+def _can_be_next(ahead, leaders, back, leader):
+    """Return whether the leader is not in the mask yet, but all leaders behind it are."""
+    behind = [at for at in leaders if (ahead[at] >> leader) & 1 == 1]
+    return (back >> leader) & 1 == 0 and all([(back >> at) & 1 == 1 for at in behind])
+
+
+def _placed_many(ahead, back):
+    """Return how many belong to the mask or have one of it ahead."""
+    return len([at for at, mask in enumerate(ahead) if (mask + (1 << at)) & back > 0])
+
+
+def _with_one_more(ahead, leaders, ways):
+    """Return a dict of the ways for the masks of one more leader, from one for the masks before."""
+    longer = {}
+    for back, many in ways.items():
+        placed = _placed_many(ahead, back)
+        for leader in leaders:
+            if _can_be_next(ahead, leaders, back, leader):
+                front = back + (1 << leader)
+                more = factorial(_placed_many(ahead, front) - 1) // factorial(placed)
+                longer[front] = longer.get(front, 0) + many * more
+    return longer
+
+
+def _lines_many(ahead):
+    """Return the number of lines in which each worker stands behind those of its mask."""
+    leaders = [at for at in range(len(ahead)) if any([(mask >> at) & 1 == 1 for mask in ahead])]
+    # Lines are made from the back: one leader after the other is put at the front, and then all others
+    # that have it ahead of them, and none of the leaders before, are put anywhere behind it.
+    ways = {0: 1}
+    for _ in leaders:
+        ways = _with_one_more(ahead, leaders, ways)
+    everyone = factorial(len(ahead))
+    return sum([many * (everyone // factorial(_placed_many(ahead, back))) for back, many in ways.items()])
+
+
 def line_many(roster, log):
     """Return the number of lines from which the log is possible."""
-    return _ways(_masks_ahead(roster, log))[0]
+    return _lines_many(_masks_ahead(roster, log))
 
 
 def line_of(roster, log, number):

@@ -8,7 +8,7 @@ def is_line(roster, thing):
     return are_names(thing) and sorted(thing) == roster.workers()
 
 
-def _first_of(crew, line):
+def first_of(crew, line):
     """Return the first worker in the line that belongs to the crew."""
     at = 0
     while line[at] not in crew:
@@ -18,12 +18,12 @@ def _first_of(crew, line):
 
 def keepers(roster, line):
     """Return the keepers of the line."""
-    return [(desk, _first_of(roster.crew(desk), line)) for desk in roster.desks()]
+    return [(desk, first_of(roster.crew(desk), line)) for desk in roster.desks()]
 
 
 def serve(roster, line, desk):
     """Return the server of a call of the desk, and the line after it."""
-    server = _first_of(roster.crew(desk), line)
+    server = first_of(roster.crew(desk), line)
     return server, [server] + [worker for worker in line if worker != server]
 
 

@@ -3,7 +3,7 @@
 from deskkeepers.errors import NotPossible
 
 
-def _last_of(served, crew):
+def last_of(served, crew):
     """Return the member of the crew that served last, or None if none of them has served."""
     for worker in reversed(served):
         if worker in crew:
@@ -15,7 +15,7 @@ def first_bad(roster, log):
     """Return the index of the first entry with which the log is no longer possible, or None."""
     served = []
     for at, (desk, worker) in enumerate(log):
-        if _last_of(served, roster.crew(desk)) not in (None, worker):
+        if last_of(served, roster.crew(desk)) not in (None, worker):
             return at
         served.append(worker)
     return None
@@ -36,7 +36,7 @@ def facts(roster, log):
     for desk, worker in log:
         crew = roster.crew(desk)
         # This is so for at most one entry of each worker, so no pair comes twice.
-        if _last_of(served, crew) is None:
+        if last_of(served, crew) is None:
             pairs.extend([(worker, other) for other in crew if other != worker])
         served.append(worker)
     return sorted(pairs)
@@ -46,5 +46,5 @@ def servers(roster, log, desk):
     """Return the workers that can be the server of a call of the desk after the log, in ascending order."""
     _refuse_impossible(roster, log)
     crew = roster.crew(desk)
-    last = _last_of([worker for name, worker in log], crew)
+    last = last_of([worker for name, worker in log], crew)
     return crew if last is None else [last]

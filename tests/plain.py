@@ -104,6 +104,14 @@ def is_plain_lean(roster, workers):
     return covers == [list(workers)]
 
 
+def outcome(function, *arguments):
+    """What the function returns, or the error that it raises with its fields."""
+    try:
+        return function(*arguments)
+    except DeskError as error:
+        return type(error).__name__, vars(error)
+
+
 def spoil(thing):
     """Change every list inside a thing."""
     if isinstance(thing, (list, tuple)):

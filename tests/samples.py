@@ -96,11 +96,18 @@ class Odd:
     __hash__ = None
 
 
+class Other:
+    """A value of a class that the package does not know, equal to itself alone."""
+
+    def __deepcopy__(self, memo):
+        return self
+
+
 def odd_values():
     """Values of many kinds, none of them a name or a list of names with an item."""
     return [None, True, False, 0, 1, -7, 10 ** 40, '', 'A', 'a b', b'a', b'', [], [[]], [1], [None], ['a', 1],
             ['a', 'a'], (), ('a',), ('a', 'b'), (('a', 'b'),), {}, {'a': 'b'}, {'a'}, set(), frozenset(['a']),
-            range(3), object(), len, ValueError, Odd(), first(), nested(20), [''], [['a']], [('a',)], [{}], [b'a']]
+            range(3), Other(), len, ValueError, Odd(), first(), nested(20), [''], [['a']], [('a',)], [{}], [b'a']]
 
 
 class Unchanged:
