@@ -28,25 +28,30 @@ def _fewest(workers, crews):
     return list(workers)
 
 
-def _calls_of(roster, line, workers):
+def calls_of(roster, line, workers):
     """Return calls that the workers, live ones, serve, one each."""
     kept = {worker: desk for desk, worker in keepers(roster, line)}
     # The order of the line: nobody ahead of the keeper of a desk is in its crew and takes it over.
     return [kept[worker] for worker in line if worker in workers]
 
 
-def settle(roster, line, cover):
-    """Return a shortest list of calls after which the live workers are those of the cover."""
+def refuse_no_end(roster, line, cover):
+    """Raise NotLean or NotLive if the pool cannot settle to the cover."""
     if not is_lean(roster, cover):
         raise NotLean()
     alive = live(roster, line)
     for worker in sorted(cover):
         if worker not in alive:
             raise NotLive(worker)
+
+
+def settle(roster, line, cover):
+    """Return a shortest list of calls after which the live workers are those of the cover."""
+    refuse_no_end(roster, line, cover)
     if len(cover) > MOST_CHOSEN:
         raise TooMany(MOST_CHOSEN)
     lost = [roster.crew(desk) for desk, worker in keepers(roster, line) if worker not in cover]
-    return _calls_of(roster, line, _fewest(cover, lost))
+    return calls_of(roster, line, _fewest(cover, lost))
 
 
 def lose(roster, line, worker):
@@ -61,4 +66,4 @@ def lose(roster, line, worker):
         raise TooMany(MOST_CHOSEN)
     others = [other for other in alive if other != worker]
     lost = [roster.crew(desk) for desk, keeper in keepers(roster, line) if keeper == worker]
-    return "calls", _calls_of(roster, line, _fewest(others, lost))
+    return "calls", calls_of(roster, line, _fewest(others, lost))

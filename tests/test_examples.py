@@ -148,6 +148,95 @@ raises BadDesk(1)
 >>> [line_many(R, log), line_of(R, log, 1), line_number(R, log, ['ann', 'bob', 'cid'])]
 [2, ['cid', 'ann', 'bob'], None]
 """,
+    '65': """\
+>>> from deskkeepers.rosters import Roster
+>>> from deskkeepers.sightings import histories, starts_many
+>>> R = Roster(['ann', 'bob', 'cid'], [('ab', ['ann', 'bob']), ('bc', ['bob', 'cid']), ('c', ['cid'])])
+>>> [histories(R, [('bc', ['bob', 'cid']), ('ab', ['ann'])]), starts_many(R, [('bc', ['bob', 'cid']), ('ab', ['ann'])])]
+[[['cid', 'ann']], 2]
+""",
+    '71': """\
+>>> from deskkeepers.rosters import Roster
+>>> from deskkeepers.comparing import compare, heads
+>>> one = Roster(['ann', 'bob', 'cid'], [('all', ['ann', 'bob', 'cid'])])
+>>> [heads(one, ['bob', 'ann', 'cid'], 2), compare(one, ['ann', 'bob', 'cid'], ['ann', 'cid', 'bob'], 0)]
+[[('all', ['bob', 'ann'])], ('alike',)]
+>>> compare(one, ['ann', 'bob', 'cid'], ['ann', 'cid', 'bob'], 5)
+('apart', ['ann'], 'all')
+""",
+    '73': """\
+>>> from deskkeepers.rosters import Roster
+>>> from deskkeepers.comparing import depth, nearest
+>>> R = Roster(['ann', 'bob', 'cid'], [('ab', ['ann', 'bob']), ('bc', ['bob', 'cid']), ('c', ['cid'])])
+>>> [depth(R, ['ann', 'cid', 'bob'], 'bob'), nearest(R, ['ann', 'cid', 'bob'], 'bob')]
+[1, (['ann'], 'ab')]
+""",
+    '75': """\
+>>> from deskkeepers.rosters import Roster
+>>> from deskkeepers.badges import compare_badges
+>>> one = Roster(['ann', 'bob'], [('x', ['ann', 'bob']), ('y', ['bob'])])
+>>> other = Roster(['cid'], [('x', ['cid']), ('y', ['cid'])])
+>>> compare_badges(one, ['ann', 'bob'], [('ann', 'red'), ('bob', 'red')], other, ['cid'], [('cid', 'red')])
+('alike', [([('x', 'ann'), ('y', 'bob')], [('x', 'cid'), ('y', 'cid')]), ([('x', 'bob'), ('y', 'bob')], [('x', 'cid'), ('y', 'cid')])])
+""",
+    '83': """\
+>>> from deskkeepers.rosters import Roster
+>>> from deskkeepers.scripts import after, period
+>>> desks = [('x', ['x']), ('xy', ['x', 'y']), ('y', ['y']), ('yz', ['y', 'z']), ('z', ['z']), ('zx', ['x', 'z'])]
+>>> roster = Roster(['x', 'y', 'z'], desks)
+>>> script = ['xy', 'x', 'yz', 'y', 'zx', 'xy', 'z']
+>>> [period(roster, ['z', 'x', 'y'], script), after(roster, ['z', 'x', 'y'], script, 10 ** 30 - 1)]
+[(0, 2), ['z', 'y', 'x']]
+""",
+    '85': """\
+>>> from deskkeepers.rosters import Roster
+>>> from deskkeepers.rows import fewest_cover
+>>> four = Roster(['a', 'b', 'c', 'd'], [('ab', ['a', 'b']), ('bc', ['b', 'c']), ('cd', ['c', 'd'])])
+>>> fewest_cover(four, ['a', 'b', 'c', 'd'], ['b', 'c'])
+(['b', 'c'], ['ab', 'cd'])
+""",
+    '87': """\
+>>> from deskkeepers.rosters import Roster
+>>> from deskkeepers.rows import lean_many, lean_of
+>>> four = Roster(['a', 'b', 'c', 'd'], [('ab', ['a', 'b']), ('bc', ['b', 'c']), ('cd', ['c', 'd'])])
+>>> [lean_many(four, ['a', 'b', 'c', 'd'], ['a', 'b', 'c', 'd']), lean_of(four, ['a', 'b', 'c', 'd'], ['a', 'b', 'c', 'd'], 0)]
+[3, ['a', 'c']]
+""",
+    '88': """\
+>>> from deskkeepers.rosters import Roster
+>>> from deskkeepers.rows import largest_lean
+>>> three = Roster(['a', 'b', 'c'], [('ab', ['a', 'b']), ('bc', ['b', 'c'])])
+>>> largest_lean(three, ['a', 'b', 'c'], ['a', 'b', 'c'])
+(['a', 'c'], [(None, 'a', 2), (None, 'b', 1), ('a', 'b', 1), ('a', 'c', 1), ('b', 'c', None)])
+""",
+    '91': """\
+>>> from deskkeepers.rosters import Roster
+>>> from deskkeepers.pools import Pool
+>>> R = Roster(['ann', 'bob', 'cid'], [('ab', ['ann', 'bob']), ('bc', ['bob', 'cid']), ('c', ['cid'])])
+>>> pool = Pool(R, ['ann', 'bob', 'cid'])
+>>> server = pool.call('bc')
+>>> pool.hire('dan', ['ab', 'c'])
+>>> pool.retire('cid')
+>>> pool.late(0, ('call', 'c'))
+>>> [pool.servers(), pool.line(), pool.keepers(), len(pool)]
+[['cid', 'cid'], ['ann', 'bob', 'dan'], [('ab', 'ann'), ('bc', 'bob'), ('c', 'dan')], 4]
+""",
+    '96': """\
+>>> from deskkeepers.rosters import Roster
+>>> from deskkeepers.notation import show_deeds, show_roster
+>>> show_roster(Roster(['bob', 'ann'], [('ab', ['bob', 'ann'])]))
+'workers ann bob\\ndesk ab ann bob'
+>>> show_deeds([('call', 'ab'), ('hire', 'cid', [])])
+'call ab\\nhire cid -'
+""",
+    '97': """\
+>>> from deskkeepers.rosters import Roster
+>>> from deskkeepers.console import Console
+>>> R = Roster(['ann', 'bob', 'cid'], [('ab', ['ann', 'bob']), ('bc', ['bob', 'cid']), ('c', ['cid'])])
+>>> console = Console(R, ['ann', 'bob', 'cid'])
+>>> [console.execute('keepers'), console.execute('ends'), console.execute('call bc'), console.execute('line')]
+['ab:ann bc:bob c:cid', 'ann,cid; bob,cid', 'bob', 'bob ann cid']
+""",
 }
 
 
@@ -187,7 +276,7 @@ class TestExamples(unittest.TestCase):
     def test_the_example_of_the_readme(self):
         text = (Path(__file__).resolve().parent.parent / 'README.md').read_text().split('```')[1]
         pairs = run(text.strip())
-        self.assertEqual(len(pairs), 4)
+        self.assertEqual(len(pairs), 7)
         for found, wanted in pairs:
             self.assertEqual(found, wanted)
 

@@ -21,11 +21,28 @@ FUNCTIONS = {
               'cheapest': '(roster, line, wishes, prices, *, limit=400)'},
     'logs': {'first_bad': '(roster, log)', 'facts': '(roster, log)', 'servers': '(roster, log, desk)'},
     'counting': {'line_many': '(roster, log)', 'line_of': '(roster, log, number)', 'line_number': '(roster, log, line)'},
+    'sightings': {'histories': '(roster, seen, *, limit=400)', 'starts_many': '(roster, seen, *, limit=400)'},
+    'comparing': {'heads': '(roster, line, many)', 'compare': '(roster, line, other, retirements)',
+                  'depth': '(roster, line, worker)', 'nearest': '(roster, line, worker)'},
+    'badges': {'compare_badges': '(one, line, badges, other, other_line, other_badges, *, limit=400)',
+               'is_agreement': '(one, line, badges, other, other_line, other_badges, thing)'},
+    'scripts': {'period': '(roster, line, script, *, limit=1000)', 'after': '(roster, line, script, times, *, limit=1000)',
+                'survivors': '(roster, line, script, *, limit=1000)', 'is_period': '(roster, line, script, thing)'},
+    'rows': {'fewest_cover': '(roster, row, workers)', 'is_fewest_cover': '(roster, row, workers, thing)',
+             'settle_row': '(roster, row, line, cover)', 'lean_many': '(roster, row, workers)',
+             'lean_of': '(roster, row, workers, number)', 'lean_number': '(roster, row, workers, cover)',
+             'largest_lean': '(roster, row, workers)'},
+    'notation': {'show_roster': '(roster)', 'show_deeds': '(deeds)', 'read_roster': '(text)', 'read_deeds': '(text)'},
 }
 METHODS = {
     ('rosters', 'Roster'): {'__init__': '(self, workers, desks)', '__eq__': '(self, other)', '__len__': '(self)',
                             'workers': '(self)', 'desks': '(self)', 'crew': '(self, desk)',
                             'desks_of': '(self, worker)', 'cut': '(self, workers)', 'beside': '(self, other)'},
+    ('pools', 'Pool'): {'__init__': '(self, roster, line)', '__len__': '(self)', 'call': '(self, desk)', 'retire': '(self, worker)',
+                        'hire': '(self, worker, desks)', 'late': '(self, at, deed)', 'undo': '(self)', 'redo': '(self)',
+                        'log': '(self)', 'servers': '(self)', 'line': '(self)', 'desks': '(self)', 'crew': '(self, desk)',
+                        'live': '(self)', 'keepers': '(self)', 'roster': '(self)', 'copied': '(self)'},
+    ('console', 'Console'): {'__init__': '(self, roster, line)', 'execute': '(self, line)'},
 }
 
 

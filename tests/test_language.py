@@ -10,15 +10,18 @@ import re
 import unittest
 from pathlib import Path
 
+from deskkeepers import errors
+
 PACKAGE = Path(__file__).resolve().parent.parent / 'deskkeepers'
 NODES = {'Module', 'Expr', 'Constant', 'ImportFrom', 'alias', 'ClassDef', 'FunctionDef', 'arguments', 'arg', 'Return',
-         'Assign', 'AugAssign', 'For', 'While', 'If', 'Raise', 'Break', 'Continue', 'BoolOp', 'And', 'Or', 'UnaryOp', 'Not',
-         'USub', 'BinOp', 'Add', 'Sub', 'Mult', 'BitAnd', 'BitOr', 'LShift', 'RShift', 'Compare', 'Eq', 'NotEq', 'Gt',
-         'GtE', 'Lt', 'LtE', 'In', 'NotIn', 'Is', 'IsNot', 'Call', 'keyword', 'IfExp', 'Attribute', 'Subscript', 'Slice',
-         'Name', 'List', 'Tuple', 'Dict', 'ListComp', 'DictComp', 'SetComp', 'comprehension', 'Load', 'Store'}
-BUILTINS = {'ValueError', 'all', 'bool', 'dict', 'enumerate', 'int', 'isinstance', 'len', 'list', 'min', 'range',
+         'Assign', 'AugAssign', 'For', 'While', 'If', 'Raise', 'Try', 'ExceptHandler', 'Break', 'Continue', 'BoolOp', 'And', 'Or',
+         'UnaryOp', 'Not', 'USub', 'BinOp', 'Add', 'Sub', 'Mult', 'FloorDiv', 'Mod', 'BitAnd', 'BitOr', 'LShift', 'RShift',
+         'Compare', 'Eq', 'NotEq', 'Gt', 'GtE', 'Lt', 'LtE', 'In', 'NotIn', 'Is', 'IsNot', 'Call', 'keyword', 'IfExp',
+         'Attribute', 'Subscript', 'Slice', 'JoinedStr', 'FormattedValue', 'Name', 'List', 'Tuple', 'Dict', 'ListComp', 'DictComp', 'SetComp', 'comprehension', 'Load', 'Store'}
+BUILTINS = {'ValueError', 'all', 'any', 'bool', 'dict', 'enumerate', 'int', 'isinstance', 'len', 'list', 'max', 'min', 'range',
             'reversed', 'set', 'sorted', 'str', 'sum', 'tuple', 'zip'}
-LIBRARY = {('heapq', 'heappop'), ('heapq', 'heappush'), ('itertools', 'combinations')}
+LIBRARY = {('heapq', 'heappop'), ('heapq', 'heappush'), ('itertools', 'combinations'), ('math', 'factorial')}
+OWN_ERRORS = {name for name, value in vars(errors).items() if isinstance(value, type)}
 BARRED = {'register', 'mro', 'elements', 'open', 'input', 'law', 'version_info', 'with_traceback', 'add_note'}
 
 
@@ -41,7 +44,6 @@ class TestLanguage(unittest.TestCase):
             self.assertRegex(path.stem, '^[a-z][a-z0-9_]*$|^__init__$')
             self.assertLessEqual(len(text.splitlines()), 399, path)
             self.assertTrue(all(sign == '\n' or ' ' <= sign <= '~' for sign in text), path)
-            self.assertNotIn('%', text)
             for line in text.splitlines():
                 self.assertLessEqual(len(line), 120, path)
 
@@ -54,6 +56,10 @@ class TestLanguage(unittest.TestCase):
                     self.assertEqual(node.decorator_list, [])
                 if isinstance(node, ast.Constant):
                     self.assertIn(type(node.value), (int, str, bool, type(None)), path)
+                    self.assertNotIn('%', str(node.value), path)
+                if isinstance(node, ast.ExceptHandler):
+                    self.assertIsNone(node.name)
+                    self.assertTrue(OWN_ERRORS.issuperset(error.id for error in getattr(node.type, 'elts', [node.type])))
 
     def test_imports(self):
         for path, text in files():
